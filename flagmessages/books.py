@@ -1,0 +1,65 @@
+"""Books: rows with their meanings, and how a book's text is read for a locker."""
+
+from flagmessages.hoists import LONGEST_ROW, hoist_shows
+from flagmessages.texts import BLANK, is_meaning, lines_of, split_at, titled_name
+
+FULL_STOP = 46
+MOST_ENTRIES = 2048
+
+
+class Book:
+    """A book: its entries, (row, meaning) each, in order, and the meanings by their rows."""
+
+    def __init__(self, entries):
+        self.entries = entries
+        self.meanings = dict(entries)
+
+    def first_row(self, meaning):
+        """The row of the first entry that has this meaning, or None."""
+        for entry in self.entries:
+            if entry[1] == meaning:
+                return entry[0]
+        return None
+
+
+def read_book(text, locker):
+    """The book that a text tells for a locker, or None if it is no book's text for it."""
+    lines = lines_of(text)
+    if lines is None or len(lines) < 2 or len(lines) > 2 + MOST_ENTRIES:
+        return None
+    if titled_name(lines[0], "book") is None or titled_name(lines[1], "for") != locker.name:
+        return None
+    entries = [entry_of(line, locker) for line in lines[2:]]
+    if None in entries or not is_rising([entry[0] for entry in entries]):
+        return None
+    return Book(entries)
+
+
+def entry_of(line, locker):
+    """The row and the meaning that a line tells, or None."""
+    names = split_at(line, BLANK)[0]
+    meaning = line[len(names) + 1:]
+    signs = signs_named(names, locker)
+    if signs is None or not is_meaning(meaning) or not hoist_shows(locker, signs):
+        return None
+    return (signs, meaning)
+
+
+def signs_named(word, locker):
+    """The row whose signs' names, with full stops between them, are a word; or None."""
+    names = split_at(word, FULL_STOP)
+    if len(names) > LONGEST_ROW or not all([name in locker.named_signs for name in names]):
+        return None
+    return tuple([locker.named_signs[name] for name in names])
+
+
+def is_rising(rows):
+    """Whether each row comes behind the one before it in the order of rows."""
+    return all([comes_before(rows[k - 1], rows[k]) for k in range(1, len(rows))])
+
+
+def comes_before(one, other):
+    """Whether one row stands ahead of another in the order of rows."""
+    if len(one) != len(other):
+        return len(one) < len(other)
+    return one < other

@@ -1,0 +1,72 @@
+"""Texts as tuples of bytes: lines, words, names and meanings."""
+
+LINE_END = 10
+BLANK = 32
+LAST_PLAIN_BYTE = 126
+LONGEST_NAME = 8
+LONGEST_MEANING = 64
+
+
+def text_of(letters):
+    """The bytes of a written text."""
+    return tuple([ord(letter) for letter in letters])
+
+
+def split_at(text, mark):
+    """The parts of a text between its marks, empty ones too: one more than there are marks."""
+    parts = []
+    part = []
+    for byte in text:
+        if byte == mark:
+            parts.append(tuple(part))
+            part = []
+        else:
+            part.append(byte)
+    parts.append(tuple(part))
+    return parts
+
+
+def lines_of(text):
+    """The lines of a text without their ends, or None if the last one has no end."""
+    parts = split_at(text, LINE_END)
+    if len(parts[-1]) > 0:
+        return None
+    return parts[:-1]
+
+
+def titled_name(line, title):
+    """The name in a line that is the title, a blank and a name; None for any other line."""
+    words = split_at(line, BLANK)
+    if len(words) != 2 or words[0] != text_of(title) or not is_name(words[1]):
+        return None
+    return words[1]
+
+
+def is_digit(byte):
+    return ord("0") <= byte <= ord("9")
+
+
+def is_name_byte(byte):
+    return ord("A") <= byte <= ord("Z") or is_digit(byte)
+
+
+def is_name(word):
+    return 1 <= len(word) <= LONGEST_NAME and all([is_name_byte(byte) for byte in word])
+
+
+def digit_from_one(word, most):
+    """The number from 1 to most that a word of one digit tells; 0 for any other word."""
+    if len(word) != 1 or not is_digit(word[0]):
+        return 0
+    digit = word[0] - ord("0")
+    return digit if digit <= most else 0
+
+
+def is_meaning(text):
+    """Whether a text is words of plain bytes with one blank between two, and not too long."""
+    if len(text) > LONGEST_MEANING:
+        return False
+    # A blank at an end or beside another one leaves an empty word, and so does a text of no bytes.
+    if not all([len(word) > 0 for word in split_at(text, BLANK)]):
+        return False
+    return all([BLANK <= byte <= LAST_PLAIN_BYTE for byte in text])
