@@ -1,4 +1,7 @@
-"""Books: rows with their meanings, and how a book's text is read for a locker."""
+"""Books: entries, a row with its meaning each, and how a book's text is read for a locker.
+
+What reads a text gives back None where the text is not of its form.
+"""
 
 from flagmessages.hoists import LONGEST_ROW, hoist_shows
 from flagmessages.texts import BLANK, is_meaning, lines_of, split_at, titled_name
@@ -8,14 +11,12 @@ MOST_ENTRIES = 2048
 
 
 class Book:
-    """A book: its entries, (row, meaning) each, in order, and the meanings by their rows."""
-
     def __init__(self, entries):
+        # The order is kept beside the meanings, as the first entry that means spell or more counts.
         self.entries = entries
         self.meanings = dict(entries)
 
-    def first_row(self, meaning):
-        """The row of the first entry that has this meaning, or None."""
+    def first_row_meaning(self, meaning):
         for entry in self.entries:
             if entry[1] == meaning:
                 return entry[0]
@@ -23,20 +24,18 @@ class Book:
 
 
 def read_book(text, locker):
-    """The book that a text tells for a locker, or None if it is no book's text for it."""
     lines = lines_of(text)
     if lines is None or len(lines) < 2 or len(lines) > 2 + MOST_ENTRIES:
         return None
     if titled_name(lines[0], "book") is None or titled_name(lines[1], "for") != locker.name:
         return None
     entries = [entry_of(line, locker) for line in lines[2:]]
-    if None in entries or not is_rising([entry[0] for entry in entries]):
+    if None in entries or not rows_rise([entry[0] for entry in entries]):
         return None
     return Book(entries)
 
 
 def entry_of(line, locker):
-    """The row and the meaning that a line tells, or None."""
     names = split_at(line, BLANK)[0]
     meaning = line[len(names) + 1:]
     signs = signs_named(names, locker)
@@ -46,20 +45,17 @@ def entry_of(line, locker):
 
 
 def signs_named(word, locker):
-    """The row whose signs' names, with full stops between them, are a word; or None."""
     names = split_at(word, FULL_STOP)
     if len(names) > LONGEST_ROW or not all([name in locker.named_signs for name in names]):
         return None
     return tuple([locker.named_signs[name] for name in names])
 
 
-def is_rising(rows):
-    """Whether each row comes behind the one before it in the order of rows."""
+def rows_rise(rows):
     return all([comes_before(rows[k - 1], rows[k]) for k in range(1, len(rows))])
 
 
 def comes_before(one, other):
-    """Whether one row stands ahead of another in the order of rows."""
     if len(one) != len(other):
         return len(one) < len(other)
     return one < other

@@ -4,18 +4,15 @@ LONGEST_ROW = 8
 
 
 def hoist_shows(locker, signs):
-    """Whether some hoist alone shows a row."""
     return all([enough_copies(locker, signs, sign) for sign in signs])
 
 
 def enough_copies(locker, signs, sign):
-    """Whether one sign's copies, with sames where they can stand, are enough for a row."""
     # A same only ever stands for the sign at its own place in the row, so signs don't vie for sames.
-    return signs.count(sign) - most_sames(locker, signs, sign) <= locker.copies[sign]
+    return signs.count(sign) - most_sames_for(locker, signs, sign) <= locker.copies[sign]
 
 
-def most_sames(locker, signs, sign):
-    """The most flags that sames can take over from one sign in a row."""
+def most_sames_for(locker, signs, sign):
     taken = 0
     left = 0
     for place, other in enumerate(signs, start=1):

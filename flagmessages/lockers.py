@@ -1,4 +1,7 @@
-"""Lockers: their kinds of flags, and how a locker's text is read."""
+"""Lockers: their kinds of flags, and how a locker's text is read.
+
+What reads a text gives back None where the text is not of its form.
+"""
 
 from flagmessages.texts import BLANK, digit_from_one, is_digit, is_name, lines_of, split_at, text_of, titled_name
 
@@ -13,9 +16,8 @@ HIGHEST_SAME = 4
 CELLS = 16
 
 
+# The label is a sign's name, a same's number K, None for the answer.
 class Kind:
-    """A kind of flags. Its label is a sign's name, a same's number K, None for the answer."""
-
     def __init__(self, rank, label, copies, outside):
         self.rank = rank
         self.label = label
@@ -23,9 +25,8 @@ class Kind:
         self.outside = outside
 
 
+# Shapes and looks are not kept: they only tell kinds apart while the text is read.
 class Locker:
-    """A locker: its name, the signs' names, each name's sign, each K's same, each kind's copies."""
-
     def __init__(self, name, kinds):
         self.name = name
         self.sign_names = [kind.label for kind in kinds if kind.rank == SIGN]
@@ -40,7 +41,6 @@ class Locker:
 
 
 def read_locker(text):
-    """The locker that a text tells, or None if it is no locker's text."""
     lines = lines_of(text)
     if lines is None or len(lines) == 0:
         return None
@@ -48,13 +48,12 @@ def read_locker(text):
     if name is None:
         return None
     kinds = [kind_of(line) for line in lines[1:]]
-    if None in kinds or not is_kinds_of_one_locker(kinds):
+    if None in kinds or not kinds_fit_together(kinds):
         return None
     return Locker(name, kinds)
 
 
 def kind_of(line):
-    """The kind that a line tells, or None."""
     words = split_at(line, BLANK)
     if words[0] == text_of("sign") and len(words) == 5 and is_name(words[1]):
         return kind_with(SIGN, words[1], words[2:])
@@ -66,11 +65,12 @@ def kind_of(line):
 
 
 def kind_with(rank, label, words):
-    """The kind with these three words for its copies, shape and look, or None."""
     copies = digit_from_one(words[0], MOST_COPIES)
-    if copies == 0 or not is_shape(words[1]) or not is_look(words[2]):
+    shape = words[1]
+    look = words[2]
+    if copies == 0 or not is_shape(shape) or not is_look(look):
         return None
-    return Kind(rank, label, copies, (words[1], words[2]))
+    return Kind(rank, label, copies, (shape, look))
 
 
 def is_shape(word):
@@ -85,7 +85,7 @@ def is_colour(byte):
     return is_digit(byte) or ord("a") <= byte <= ord("f")
 
 
-def is_kinds_of_one_locker(kinds):
+def kinds_fit_together(kinds):
     names = [kind.label for kind in kinds if kind.rank == SIGN]
     if len(names) < 1 or len(names) > MOST_SIGNS or len(set(names)) < len(names):
         return False
@@ -95,7 +95,6 @@ def is_kinds_of_one_locker(kinds):
 
 
 def may_follow(kind, before):
-    """Whether a kind may stand right behind the one before it."""
     if kind.rank != before.rank:
         return kind.rank > before.rank
     if kind.rank == SAME:

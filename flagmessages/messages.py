@@ -9,7 +9,6 @@ MOST_BYTES = 65536
 
 
 def row(t, b, r):
-    """What the row r tells by the book b for the locker t: how many bytes, 0, 1 or 2, the bytes."""
     opening = opened(t, b)
     if opening[0] < 0:
         return [opening[0]]
@@ -24,8 +23,8 @@ def row(t, b, r):
     return [len(told[1]), told[0]] + list(told[1])
 
 
+# The first of the three is a refusal or 0: every call refuses the texts alike, ahead of its own refusals.
 def opened(t, b):
-    """A triple: the refusal of these texts that all calls share, or 0; the locker; the book."""
     if len(t) > MOST_BYTES or len(b) > MOST_BYTES:
         return (-2, None, None)
     locker = read_locker(t)

@@ -1,4 +1,4 @@
-"""What a row tells by a book."""
+"""What a row tells by a book: a pair of MEANING, NEW_WORD or MORE and the bytes, or None for nothing."""
 
 from flagmessages.texts import text_of
 
@@ -8,27 +8,24 @@ MORE = 2
 
 
 def told_by(locker, book, signs):
-    """What a row tells, as a pair: MEANING, NEW_WORD or MORE, and the bytes. None if it tells nothing."""
     if signs in book.meanings:
         return told_by_entry(book.meanings[signs])
-    letters = letters_behind(locker, book.first_row(text_of("spell")), signs)
+    letters = letters_behind(locker, book.first_row_meaning(text_of("spell")), signs)
     if letters is not None:
         return (NEW_WORD, letters)
-    letters = letters_behind(locker, book.first_row(text_of("more")), signs)
+    letters = letters_behind(locker, book.first_row_meaning(text_of("more")), signs)
     if letters is not None:
         return (MORE, letters)
     return None
 
 
 def told_by_entry(meaning):
-    """What an entry's own row tells: spell and more by themselves tell nothing."""
     if meaning in (text_of("spell"), text_of("more")):
         return None
     return (MEANING, meaning)
 
 
 def letters_behind(locker, start, signs):
-    """The one-byte names, as a text, of the signs behind the start of a row; None if it isn't so."""
     if start is None or len(signs) <= len(start) or signs[:len(start)] != start:
         return None
     names = [locker.sign_names[sign] for sign in signs[len(start):]]

@@ -1,4 +1,7 @@
-"""Texts as tuples of bytes: lines, words, names and meanings."""
+"""Texts as tuples of bytes: lines, words, names and meanings.
+
+What reads a text gives back None where the text is not of its form.
+"""
 
 LINE_END = 10
 BLANK = 32
@@ -7,13 +10,13 @@ LONGEST_NAME = 8
 LONGEST_MEANING = 64
 
 
+# Texts come as bytes, so the words that the forms name are turned into bytes to compare them.
 def text_of(letters):
-    """The bytes of a written text."""
     return tuple([ord(letter) for letter in letters])
 
 
+# Empty parts are kept: by them a mark too many is seen.
 def split_at(text, mark):
-    """The parts of a text between its marks, empty ones too: one more than there are marks."""
     parts = []
     part = []
     for byte in text:
@@ -27,15 +30,14 @@ def split_at(text, mark):
 
 
 def lines_of(text):
-    """The lines of a text without their ends, or None if the last one has no end."""
     parts = split_at(text, LINE_END)
+    # Each line has its end behind it, so nothing may be left behind the last one.
     if len(parts[-1]) > 0:
         return None
     return parts[:-1]
 
 
 def titled_name(line, title):
-    """The name in a line that is the title, a blank and a name; None for any other line."""
     words = split_at(line, BLANK)
     if len(words) != 2 or words[0] != text_of(title) or not is_name(words[1]):
         return None
@@ -54,8 +56,8 @@ def is_name(word):
     return 1 <= len(word) <= LONGEST_NAME and all([is_name_byte(byte) for byte in word])
 
 
+# No number that is read may be 0, so 0 stands for a word that is no such number.
 def digit_from_one(word, most):
-    """The number from 1 to most that a word of one digit tells; 0 for any other word."""
     if len(word) != 1 or not is_digit(word[0]):
         return 0
     digit = word[0] - ord("0")
@@ -63,7 +65,6 @@ def digit_from_one(word, most):
 
 
 def is_meaning(text):
-    """Whether a text is words of plain bytes with one blank between two, and not too long."""
     if len(text) > LONGEST_MEANING:
         return False
     # A blank at an end or beside another one leaves an empty word, and so does a text of no bytes.

@@ -72,6 +72,10 @@ class Language(unittest.TestCase):
             self.assertEqual(node.finalbody, [], (name, node.lineno))
         for name, node in nodes(ast.Assign):
             self.assertEqual(len(node.targets), 1, (name, node.lineno))
+        for path, tree in trees():
+            for node in ast.walk(tree):
+                if isinstance(node, ast.Expr) and node is not tree.body[0]:
+                    self.assertIsInstance(node.value, ast.Call, (path.name, node.lineno))
         for name, node in nodes(ast.ListComp):
             self.assertEqual(len(node.generators), 1, (name, node.lineno))
             self.assertLessEqual(len(node.generators[0].ifs), 1, (name, node.lineno))
