@@ -3,7 +3,7 @@
 What reads a text gives back None where the text is not of its form.
 """
 
-from flagmessages.hoists import LONGEST_ROW, hoist_shows
+from flagmessages.displays import LONGEST_ROW, display_shows
 from flagmessages.texts import BLANK, is_meaning, lines_of, split_at, titled_name
 
 FULL_STOP = 46
@@ -39,7 +39,7 @@ def entry_of(line, locker):
     names = split_at(line, BLANK)[0]
     meaning = line[len(names) + 1:]
     signs = signs_named(names, locker)
-    if signs is None or not is_meaning(meaning) or not hoist_shows(locker, signs):
+    if signs is None or not is_meaning(meaning) or not display_shows(locker, [signs]):
         return None
     return (signs, meaning)
 
@@ -52,10 +52,9 @@ def signs_named(word, locker):
 
 
 def rows_rise(rows):
-    return all([comes_before(rows[k - 1], rows[k]) for k in range(1, len(rows))])
+    return all([order_of(rows[k - 1]) < order_of(rows[k]) for k in range(1, len(rows))])
 
 
-def comes_before(one, other):
-    if len(one) != len(other):
-        return len(one) < len(other)
-    return one < other
+# These compare as the rows do in the order of rows.
+def order_of(signs):
+    return (len(signs), signs)

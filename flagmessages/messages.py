@@ -1,11 +1,14 @@
 """The calls. Each answers a list of whole numbers: the answer, then what else is told behind it."""
 
 from flagmessages.books import read_book
-from flagmessages.hoists import LONGEST_ROW
+from flagmessages.composing import showings_told
+from flagmessages.displays import LONGEST_ROW
 from flagmessages.lockers import read_locker
 from flagmessages.telling import told_by
+from flagmessages.texts import is_meaning
 
 MOST_BYTES = 65536
+MOST_ENTRIES_TO_COMPOSE = 64
 
 
 def row(t, b, r):
@@ -21,6 +24,35 @@ def row(t, b, r):
     if told is None:
         return [-5]
     return [len(told[1]), told[0]] + list(told[1])
+
+
+def compose(t, b, s):
+    opening = opened(t, b)
+    if opening[0] < 0:
+        return [opening[0]]
+    # A message has the form of a meaning.
+    if not is_meaning(s):
+        return [-1]
+    if len(opening[2].entries) > MOST_ENTRIES_TO_COMPOSE:
+        return [-8]
+    displays = showings_told(opening[1], opening[2], tuple(s))
+    if displays is None:
+        return [-5]
+    return showings_counted(displays)
+
+
+def showings_counted(displays):
+    hoists = 0
+    flags = 0
+    numbers = []
+    for display in displays:
+        hoists += len(display)
+        numbers.append(len(display))
+        for hoist in display:
+            flags += len(hoist)
+            numbers.append(len(hoist))
+            numbers.extend(hoist)
+    return [len(displays), hoists, flags] + numbers
 
 
 # The first of the three is a refusal or 0: every call refuses the texts alike, ahead of its own refusals.

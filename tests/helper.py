@@ -1,8 +1,9 @@
 """Texts of lockers and books for the tests, and a second, plain reading of the document to compare with."""
 import itertools
 import re
+import unittest
 
-SHAPES = ("square", "tails", "long")
+from flagmessages.messages import compose
 
 
 def text(*lines):
@@ -46,6 +47,7 @@ def book(*entries):
 # Ten signs: A to E have names of one byte, so have 1 and 2; the others have longer ones.
 NAMES = ("A", "B", "C", "D", "E", "1", "2", "GO", "STOP", "LONGNAME")
 LOCKER = locker(*signs(NAMES, 2), same(1), same(2), same(4, 8), answer())
+KINDS = NAMES + ("s1", "s2", "s4", "answer")
 
 
 def row_of(dotted, names=NAMES):
@@ -130,3 +132,234 @@ def expected_row(t, b, r):
             if r[:len(start)] == start and rest and set(map(len, rest)) == {1}:
                 return [len(rest), number] + raw("".join(rest))
     return [-5]
+
+
+def numbers_of(names, *showings):
+    """What compose is to answer: each showing is told as its hoists with a blank, their flags with a full stop between.
+
+    The names are those of all kinds, signs first; compose's own counts are put ahead of the showings' numbers.
+    """
+    return as_numbers([[row_of(hoist, names) for hoist in showing.split()] for showing in showings])
+
+
+def hoist_means(hoist, sign_count, ks):
+    """The row that the hoist means, or None."""
+    row = []
+    for flag in hoist:
+        if flag < sign_count:
+            row.append(flag)
+        elif flag - sign_count < len(ks) and ks[flag - sign_count] <= len(row):
+            row.append(row[ks[flag - sign_count] - 1])
+        else:
+            return None
+    return tuple(row)
+
+
+def every_hoist(copies):
+    """Each list of 1 to 8 flags out of so many copies of each kind, with the copies that it leaves."""
+    lists = [((), tuple(copies))]
+    for length in range(8):
+        lists = [(hoist + (kind,), left[:kind] + (left[kind] - 1,) + left[kind + 1:])
+                 for hoist, left in lists for kind in range(len(left)) if left[kind]]
+        yield from lists
+
+
+def every_display(copies, most=4):
+    for hoist, left in every_hoist(copies):
+        yield (hoist,)
+        if most > 1:
+            for display in every_display(left, most - 1):
+                yield (hoist,) + display
+
+
+def displays_told(read):
+    """For all rows that a display shows the display told of them, out of every display there is."""
+    name, names, copies, ks = read
+    told = {}
+    for display in every_display(copies):
+        rows = tuple(hoist_means(hoist, len(names), ks) for hoist in display)
+        if None not in rows:
+            flags = [flag for hoist in display for flag in hoist]
+            order = (sum(flag >= len(names) for flag in flags), flags, display)
+            told[rows] = min(told.get(rows, order), order)
+    return {rows: order[2] for rows, order in told.items()}
+
+
+def tell(told, before, rows):
+    """The text and what its last row told (None for nothing), if the rows follow on such a pair."""
+    text_told, last = before
+    for row in rows:
+        kind, letters = told[row]
+        if kind == 2 and last not in (1, 2):
+            kind = None
+        if kind in (0, 1):
+            text_told += " " * (text_told != "") + letters
+        elif kind == 2:
+            text_told += letters
+        last = kind
+    return text_told, last
+
+
+def what_rows_tell(t, b, rows):
+    """By each row 0, 1 or 2 (None for nothing) and the letters."""
+    answers = {row: expected_row(t, b, list(row)) for row in rows}
+    return {row: (answered[1], bytes(answered[2:]).decode()) if answered[0] > 0 else (None, "")
+            for row, answered in answers.items()}
+
+
+def showings_order(showings):
+    rows = [row for showing in showings for row in showing]
+    return (len(showings), len(rows), sum(map(len, rows)), [(len(row), row) for row in rows],
+            [len(showing) for showing in showings])
+
+
+def as_numbers(displays):
+    """What compose is to answer, of displays of hoists of flags."""
+    hoists = [hoist for display in displays for hoist in display]
+    numbers = [len(displays), len(hoists), sum(map(len, hoists))]
+    for display in displays:
+        numbers.append(len(display))
+        for hoist in display:
+            numbers += [len(hoist), *hoist]
+    return numbers
+
+
+class Composer:
+    """Composes by trying every display of a small locker and every list of showings.
+
+    Rows that tell nothing are in no showings told: without them there are fewer rows and as few showings. They are
+    tried too if silent is True, which only very small lockers bear.
+    """
+
+    def __init__(self, t, silent=False):
+        self.t = t
+        self.silent = silent
+        self.displays = displays_told(expected_locker(t))
+        self.rows = {row for rows in self.displays for row in rows}
+
+    def open(self, b):
+        self.told = what_rows_tell(self.t, b, self.rows)
+        self.showings = [rows for rows in self.displays
+                         if self.silent or all(self.told[row][0] is not None for row in rows)]
+        return self
+
+    def composed(self, message):
+        lists = [(("", None), ())]
+        for many in range(len(message)):
+            lists = [(tell(self.told, before, rows), showings + (rows,)) for before, showings in lists
+                     for rows in self.showings]
+            lists = [one for one in lists if message.startswith(one[0][0])]
+            if not self.silent:
+                lists = [one for one in lists if one[0][1] is not None]
+            done = [showings for before, showings in lists if before[0] == message]
+            if done:
+                return as_numbers([self.displays[showing] for showing in min(done, key=showings_order)])
+        return [-5]
+
+
+class RowsComposer:
+    """Composes by trying every list of rows that tells the message and every way to cut it into showings.
+
+    Larger lockers can be gone through so, as only such displays are tried as show the rows of a list.
+    """
+
+    def __init__(self, t, b):
+        self.t, self.b = t, b
+        self.name, self.names, self.copies, self.ks = expected_locker(t)
+        self.entries = expected_book(b, expected_locker(t))
+        self.displays = {}
+
+    def composed(self, message):
+        showings = [cut for rows in self.tellings(message) for cut in self.cuts(rows)]
+        if not showings:
+            return [-5]
+        return as_numbers([self.display(showing) for showing in min(showings, key=showings_order)])
+
+    def tellings(self, message):
+        """Every list of rows that tells the message."""
+        told = what_rows_tell(self.t, self.b, self.rows_of(message))
+        lists = [(("", None), ())]
+        while lists:
+            lists = [(tell(told, before, [row]), rows + (row,)) for before, rows in lists for row in told]
+            lists = [one for one in lists if one[0][1] is not None and message.startswith(one[0][0])]
+            yield from (rows for before, rows in lists if before[0] == message)
+
+    def rows_of(self, message):
+        """The entries' rows, and what could spell a part of a word."""
+        rows = {tuple(row) for row, meaning in self.entries}
+        starts = [tuple(row) for row, meaning in self.entries if meaning in ("spell", "more")]
+        for first, last in itertools.combinations(range(len(message) + 1), 2):
+            if set(message[first:last]) <= set(self.names):
+                letters = tuple(self.names.index(letter) for letter in message[first:last])
+                rows |= {start + letters for start in starts if len(start + letters) <= 8}
+        return rows
+
+    def cuts(self, rows):
+        """Every way to cut the rows into showings that displays show."""
+        if not rows:
+            yield ()
+        for many in range(1, min(4, len(rows)) + 1):
+            if self.display(rows[:many]) is not None:
+                for rest in self.cuts(rows[many:]):
+                    yield (rows[:many],) + rest
+
+    def display(self, rows):
+        """The display told of the rows; None if there is none."""
+        if rows not in self.displays:
+            shown = list(self.flags_for(rows, ()))
+            told = min(shown, key=lambda flags: (sum(flag >= len(self.names) for flag in flags), flags), default=None)
+            ends = list(itertools.accumulate(map(len, rows)))
+            self.displays[rows] = told and [told[end - len(row):end] for row, end in zip(rows, ends)]
+        return self.displays[rows]
+
+    def flags_for(self, rows, flags):
+        """Every list of flags, hoist behind hoist, that begins with these and shows the rows."""
+        spots = [(row, place) for row in rows for place in range(len(row))]
+        if len(flags) == len(spots):
+            yield flags
+            return
+        row, place = spots[len(flags)]
+        sames = [len(self.names) + j for j, k in enumerate(self.ks) if k <= place and row[k - 1] == row[place]]
+        for flag in [row[place]] + sames:
+            if flags.count(flag) < self.copies[flag]:
+                yield from self.flags_for(rows, flags + (flag,))
+
+
+def read_back(t, b, answered):
+    """The text that composed showings tell; an AssertionError if they are no showings or are counted wrongly."""
+    name, names, copies, ks = expected_locker(t)
+    numbers = answered[3:]
+    hoists = []
+    before = ("", None)
+    showings = 0
+    while numbers:
+        display = []
+        for many in range(numbers.pop(0)):
+            length = numbers.pop(0)
+            display.append(numbers[:length])
+            numbers = numbers[length:]
+            assert 1 <= length == len(display[-1]) <= 8
+        assert 1 <= len(display) <= 4
+        flags = [flag for hoist in display for flag in hoist]
+        assert all(flags.count(flag) <= copies[flag] for flag in flags)
+        rows = [hoist_means(hoist, len(names), ks) for hoist in display]
+        assert None not in rows
+        for row in rows:
+            before = tell(what_rows_tell(t, b, [row]), before, [row])
+            assert before[1] is not None
+        hoists += display
+        showings += 1
+    assert answered[:3] == [showings, len(hoists), sum(map(len, hoists))]
+    return before[0]
+
+
+class Composing(unittest.TestCase):
+    """Holds what is composed against showings that are told by the names of their flags, as numbers_of takes them."""
+
+    def check(self, b, letters, *showings, t=LOCKER, names=KINDS):
+        answered = compose(t, b, raw(letters))
+        self.assertEqual(answered, numbers_of(names, *showings), letters)
+        self.assertEqual(read_back(t, b, answered), letters)
+
+    def refuse(self, b, letters, t=LOCKER):
+        self.assertEqual(compose(t, b, raw(letters)), [-5], letters)
