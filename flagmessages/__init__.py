@@ -1,1 +1,1 @@
-"""Messages by flags: what rows of signs tell by a code book, and messages composed of them, out of one locker."""
+"""Messages by flags: what rows of signs tell by a code book, messages composed of them, and showings read."""

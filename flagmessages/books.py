@@ -12,15 +12,15 @@ MOST_ENTRIES = 2048
 
 class Book:
     def __init__(self, entries):
-        # The order is kept beside the meanings, as the first entry that means spell or more counts.
         self.entries = entries
         self.meanings = dict(entries)
+        # Of several entries that mean spell or more only the first counts, and it is asked for at every row.
+        self.rows_by_meaning = {}
+        for signs, meaning in entries:
+            self.rows_by_meaning.setdefault(meaning, signs)
 
     def first_row_meaning(self, meaning):
-        for entry in self.entries:
-            if entry[1] == meaning:
-                return entry[0]
-        return None
+        return self.rows_by_meaning.get(meaning)
 
 
 def read_book(text, locker):

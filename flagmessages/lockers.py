@@ -32,12 +32,15 @@ class Locker:
         self.sign_names = [kind.label for kind in kinds if kind.rank == SIGN]
         self.copies = [kind.copies for kind in kinds]
         self.named_signs = {}
+        # By its number K each same's number as a kind, and the other way round.
         self.sames = {}
+        self.same_numbers = {}
         for number, kind in enumerate(kinds):
             if kind.rank == SIGN:
                 self.named_signs[kind.label] = number
             elif kind.rank == SAME:
                 self.sames[kind.label] = number
+                self.same_numbers[number] = kind.label
 
 
 def read_locker(text):

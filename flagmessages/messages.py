@@ -4,7 +4,8 @@ from flagmessages.books import read_book
 from flagmessages.composing import showings_told
 from flagmessages.displays import LONGEST_ROW
 from flagmessages.lockers import read_locker
-from flagmessages.telling import told_by
+from flagmessages.reading import displays_in, rows_shown
+from flagmessages.telling import text_told, told_by
 from flagmessages.texts import is_meaning
 
 MOST_BYTES = 65536
@@ -53,6 +54,23 @@ def showings_counted(displays):
             numbers.append(len(hoist))
             numbers.extend(hoist)
     return [len(displays), hoists, flags] + numbers
+
+
+def reads(t, b, v):
+    opening = opened(t, b)
+    if opening[0] < 0:
+        return [opening[0]]
+    locker = opening[1]
+    found = displays_in(v, len(locker.copies))
+    if found[0] is not None:
+        return [-4, found[0]]
+    shown = rows_shown(locker, found[1])
+    if shown[0] is not None:
+        return [-3, shown[0]]
+    told = text_told(locker, opening[2], shown[1])
+    if told[0] is not None:
+        return [-5, told[0]]
+    return [len(told[1])] + told[1]
 
 
 # The first of the three is a refusal or 0: every call refuses the texts alike, ahead of its own refusals.

@@ -1,6 +1,9 @@
-"""What a row tells by a book: a pair of MEANING, NEW_WORD or MORE and the bytes, or None for nothing."""
+"""What a row tells by a book: a pair of MEANING, NEW_WORD or MORE and the bytes, or None for nothing.
 
-from flagmessages.texts import text_of
+And what rows tell one after another.
+"""
+
+from flagmessages.texts import BLANK, text_of
 
 MEANING = 0
 NEW_WORD = 1
@@ -32,3 +35,23 @@ def letters_behind(locker, start, signs):
     if not all([len(name) == 1 for name in names]):
         return None
     return tuple([name[0] for name in names])
+
+
+# A pair: the number from 0 of the first row that tells nothing, or None; then the bytes.
+def text_told(locker, book, rows):
+    text = []
+    before = None
+    for number, signs in enumerate(rows):
+        told = told_by(locker, book, signs)
+        if told is None or not may_follow_on(told[0], before):
+            return (number, None)
+        if told[0] != MORE and len(text) > 0:
+            text.append(BLANK)
+        text.extend(told[1])
+        before = told[0]
+    return (None, text)
+
+
+# Ahead of the first row there is None.
+def may_follow_on(kind, before):
+    return kind != MORE or before in (NEW_WORD, MORE)

@@ -1,9 +1,11 @@
 """Texts of lockers and books for the tests, and a second, plain reading of the document to compare with."""
+import collections
+import copy
 import itertools
 import re
 import unittest
 
-from flagmessages.messages import compose
+from flagmessages.messages import compose, reads
 
 
 def text(*lines):
@@ -52,6 +54,13 @@ KINDS = NAMES + ("s1", "s2", "s4", "answer")
 
 def row_of(dotted, names=NAMES):
     return [names.index(name) for name in dotted.split(".")]
+
+
+def in_order(entries, names):
+    """The lines of a book's entries, of which each is a row's text and a meaning, in the order of rows."""
+    rows = {tuple(names.index(name) for name in row_text.split(".")): (row_text, meaning)
+            for row_text, meaning in entries}
+    return [" ".join(rows[one]) for one in sorted(rows, key=lambda signs_of_row: (len(signs_of_row), signs_of_row))]
 
 
 # What follows reads the document once more by other means than the package's own.
@@ -325,41 +334,123 @@ class RowsComposer:
                 yield from self.flags_for(rows, flags + (flag,))
 
 
-def read_back(t, b, answered):
-    """The text that composed showings tell; an AssertionError if they are no showings or are counted wrongly."""
-    name, names, copies, ks = expected_locker(t)
-    numbers = answered[3:]
-    hoists = []
-    before = ("", None)
-    showings = 0
-    while numbers:
-        display = []
-        for many in range(numbers.pop(0)):
-            length = numbers.pop(0)
-            display.append(numbers[:length])
-            numbers = numbers[length:]
-            assert 1 <= length == len(display[-1]) <= 8
-        assert 1 <= len(display) <= 4
-        flags = [flag for hoist in display for flag in hoist]
-        assert all(flags.count(flag) <= copies[flag] for flag in flags)
-        rows = [hoist_means(hoist, len(names), ks) for hoist in display]
-        assert None not in rows
-        for row in rows:
-            before = tell(what_rows_tell(t, b, [row]), before, [row])
-            assert before[1] is not None
-        hoists += display
-        showings += 1
-    assert answered[:3] == [showings, len(hoists), sum(map(len, hoists))]
-    return before[0]
+def some_book(source, read, meanings, most=3):
+    """A book with a row of at most so many signs for some of the meanings, for a locker as expected_locker reads it."""
+    name, names, copies, ks = read
+    entries = []
+    for meaning in meanings:
+        if source.random() < 0.6:
+            signs_of_row = [source.randrange(len(names)) for place in range(source.randint(1, most))]
+            if expected_shown(signs_of_row, len(names), copies, ks):
+                entries.append((".".join(names[k] for k in signs_of_row), meaning))
+    return book(*in_order(entries, names))
+
+
+class NotSo(Exception):
+    """Raised with the place of the first number that can't be so."""
+
+
+def expected_showings(v, kinds):
+    """The showings, each a list of hoists, that the numbers stand for."""
+    left = collections.deque(enumerate(v))
+
+    def take(allowed):
+        place, number = left.popleft() if left else (len(v), None)
+        if number not in allowed:
+            raise NotSo(place)
+        return number
+
+    showings = []
+    while left:
+        showings.append([[take(range(kinds)) for flag in range(take(range(1, 9)))]
+                         for hoist in range(take(range(1, 5)))])
+    return showings
+
+
+class Reader:
+    """Reads showings by one locker and one book; what a row tells is looked up once."""
+
+    def __init__(self, t, b):
+        self.t, self.b = t, b
+        self.name, self.names, self.copies, self.ks = expected_locker(t)
+        self.entries = expected_book(b, expected_locker(t))
+        self.told = {}
+
+    def read(self, v):
+        """What the call reads is to answer."""
+        try:
+            showings = expected_showings(v, len(self.copies))
+        except NotSo as wrong:
+            return [-4, wrong.args[0]]
+        rows = [self.rows_of(showing) for showing in showings]
+        if None in rows:
+            return [-3, rows.index(None)]
+        before = ("", None)
+        for number, row in enumerate(itertools.chain(*rows)):
+            if row not in self.told:
+                self.told.update(what_rows_tell(self.t, self.b, [row]))
+            before = tell(self.told, before, [row])
+            if before[1] is None:
+                return [-5, number]
+        return [len(before[0])] + raw(before[0])
+
+    def rows_of(self, showing):
+        """The rows that a showing's hoists mean, or None if it is no display."""
+        rows = [hoist_means(hoist, len(self.names), self.ks) for hoist in showing]
+        used = collections.Counter(itertools.chain(*showing))
+        return None if None in rows or any(used[flag] > self.copies[flag] for flag in used) else rows
+
+
+def composed(t, b, s):
+    """What compose answers.
+
+    An AssertionError if the showings are counted wrongly, or if not just s is read from them, both by the call reads
+    and by a second reading.
+    """
+    answered = compose(t, b, s)
+    if answered[0] > 0:
+        reader = Reader(t, b)
+        assert as_numbers(expected_showings(answered[3:], len(reader.copies))) == answered
+        assert reader.read(answered[3:]) == [len(s)] + s
+        assert reads(t, b, answered[3:]) == [len(s)] + s
+    return answered
 
 
 class Composing(unittest.TestCase):
     """Holds what is composed against showings that are told by the names of their flags, as numbers_of takes them."""
 
     def check(self, b, letters, *showings, t=LOCKER, names=KINDS):
-        answered = compose(t, b, raw(letters))
-        self.assertEqual(answered, numbers_of(names, *showings), letters)
-        self.assertEqual(read_back(t, b, answered), letters)
+        self.assertEqual(composed(t, b, raw(letters)), numbers_of(names, *showings), letters)
 
     def refuse(self, b, letters, t=LOCKER):
         self.assertEqual(compose(t, b, raw(letters)), [-5], letters)
+
+
+class StandsByItself:
+    """Tests of a call on each of some cases: what is handed in is not changed, nothing is kept from call to call.
+
+    A test case that has this as a base says what CALL and CASES are.
+    """
+
+    def test_what_is_handed_in_stays_as_it_is(self):
+        for case in self.CASES:
+            before = copy.deepcopy(case)
+            self.CALL(*case)
+            self.assertEqual(case, before)
+
+    def test_two_calls_answer_the_same(self):
+        firsts = [self.CALL(*case) for case in self.CASES]
+        self.assertEqual([self.CALL(*case) for case in self.CASES], firsts)
+        self.assertEqual([self.CALL(*case) for case in reversed(self.CASES)], firsts[::-1])
+
+    def test_changing_an_answer_changes_no_later_one(self):
+        for case in self.CASES:
+            first = self.CALL(*case)
+            first.append(99)
+            self.assertEqual(self.CALL(*case), first[:-1])
+
+    def test_lists_of_whole_numbers_alone_are_answered(self):
+        for case in self.CASES:
+            answered = self.CALL(*case)
+            self.assertIs(type(answered), list)
+            self.assertEqual({type(number) for number in answered}, {int})

@@ -1,9 +1,8 @@
 """The call compose: what is composed at all, its refusals, and that it changes and keeps nothing."""
-import copy
 import unittest
 
 from flagmessages.messages import compose, row
-from helper import LOCKER, NAMES, Composing, answer, book, locker, raw, row_of, same, signs
+from helper import LOCKER, NAMES, Composing, StandsByItself, answer, book, composed, locker, raw, same, signs
 
 BOOK = book("A have arrived", "B at noon", "C ship", "GO spell", "STOP more", "A.B at", "A.C noon")
 TOO_LONG = [10] * 65537
@@ -12,17 +11,17 @@ LONGEST = [10] * 65536
 
 class WhatIsComposed(Composing):
     def test_one_meaning(self):
-        self.assertEqual(compose(LOCKER, BOOK, raw("have arrived")), [1, 1, 1, 1, 1, 0])
-        self.assertEqual(compose(LOCKER, BOOK, raw("noon")), [1, 1, 2, 1, 2, 0, 2])
+        self.assertEqual(composed(LOCKER, BOOK, raw("have arrived")), [1, 1, 1, 1, 1, 0])
+        self.assertEqual(composed(LOCKER, BOOK, raw("noon")), [1, 1, 2, 1, 2, 0, 2])
         self.check(BOOK, "ship", "C")
 
     def test_several_meanings(self):
-        self.assertEqual(compose(LOCKER, BOOK, raw("ship have arrived")), [1, 2, 2, 2, 1, 2, 1, 0])
+        self.assertEqual(composed(LOCKER, BOOK, raw("ship have arrived")), [1, 2, 2, 2, 1, 2, 1, 0])
         self.check(BOOK, "ship at noon", "C B")
         self.check(BOOK, "noon ship have arrived at noon", "A.C C A B")
 
     def test_several_showings(self):
-        self.assertEqual(compose(LOCKER, BOOK, raw("ship ship ship")), [2, 3, 3, 1, 1, 2, 2, 1, 2, 1, 2])
+        self.assertEqual(composed(LOCKER, BOOK, raw("ship ship ship")), [2, 3, 3, 1, 1, 2, 2, 1, 2, 1, 2])
         self.check(BOOK, "ship ship", "C C")
 
     def test_a_new_word(self):
@@ -184,14 +183,14 @@ class Refusals(unittest.TestCase):
         self.assertEqual(compose(LOCKER, BOOK, []), [-1])
         for letters in ("x", "x" * 64, "x " * 31 + "xx"):
             b = book("A " + letters)
-            self.assertEqual(compose(LOCKER, b, raw(letters)), [1, 1, 1, 1, 1, 0])
+            self.assertEqual(composed(LOCKER, b, raw(letters)), [1, 1, 1, 1, 1, 0])
             self.assertEqual(compose(LOCKER, BOOK, raw(letters)), [-5])
         for letters in ("x" * 65, "x " * 32 + "x", "x" * 400, "A" * 65):
             self.assertEqual(compose(LOCKER, BOOK, raw(letters)), [-1])
 
     def test_blanks_in_messages(self):
         b = book("A x", "B y", "C x y")
-        self.assertEqual(compose(LOCKER, b, raw("x y")), [1, 1, 1, 1, 1, 2])
+        self.assertEqual(composed(LOCKER, b, raw("x y")), [1, 1, 1, 1, 1, 2])
         for letters in (" ", "  ", " x", "x ", " x y", "x y ", "x  y", "x   y", "x y  x", "  x", "x  ", " " * 64):
             self.assertEqual(compose(LOCKER, b, raw(letters)), [-1], letters)
 
@@ -202,12 +201,12 @@ class Refusals(unittest.TestCase):
                 self.assertEqual(compose(LOCKER, BOOK, s) == [-1], not good, s)
                 if good:
                     b = raw("book B\nfor L\nB ") + s + [10]
-                    self.assertEqual(compose(LOCKER, b, s), [1, 1, 1, 1, 1, 1])
+                    self.assertEqual(composed(LOCKER, b, s), [1, 1, 1, 1, 1, 1])
                     self.assertEqual(compose(LOCKER, book("B other"), s), [-5])
 
     def test_books_of_64_and_65_entries(self):
-        self.assertEqual(compose(LOCKER, many_entries(63), raw("a b")), [1, 2, 2, 2, 1, 1, 1, 2])
-        self.assertEqual(compose(LOCKER, many_entries(64), raw("a b")), [1, 2, 2, 2, 1, 1, 1, 2])
+        self.assertEqual(composed(LOCKER, many_entries(63), raw("a b")), [1, 2, 2, 2, 1, 1, 1, 2])
+        self.assertEqual(composed(LOCKER, many_entries(64), raw("a b")), [1, 2, 2, 2, 1, 1, 1, 2])
         self.assertEqual(compose(LOCKER, many_entries(64), raw("q")), [-5])
         for many in (65, 66, 110):
             self.assertEqual(compose(LOCKER, many_entries(many), raw("a b")), [-8])
@@ -240,40 +239,14 @@ class Refusals(unittest.TestCase):
             self.assertEqual(compose(t, b, s), [number])
 
 
-class NothingChangedNothingKept(unittest.TestCase):
+class NothingChangedNothingKept(StandsByItself, unittest.TestCase):
+    CALL = staticmethod(compose)
     CASES = (
         (LOCKER, BOOK, raw("ship have arrived")), (LOCKER, BOOK, raw("ABCDE12A ship at noon")),
         (LOCKER, BOOK, raw("AAAAAAAAAAAA 111111")), (LOCKER, BOOK, raw("sails")), (LOCKER, BOOK, []),
         (LOCKER, BOOK, raw(" ")), (LOCKER, many_entries(65), raw("a")), (LOCKER, [], raw("a")), ([], BOOK, raw("a")),
         (TOO_LONG, BOOK, raw("a")),
     )
-
-    def test_what_is_handed_in_stays_as_it_is(self):
-        for case in self.CASES:
-            before = copy.deepcopy(case)
-            compose(*case)
-            self.assertEqual(case, before)
-
-    def test_two_calls_answer_the_same(self):
-        firsts = [compose(*case) for case in self.CASES]
-        self.assertEqual([compose(*case) for case in self.CASES], firsts)
-        self.assertEqual([compose(*case) for case in reversed(self.CASES)], firsts[::-1])
-
-    def test_changing_an_answer_changes_no_later_one(self):
-        first = compose(*self.CASES[0])
-        first.append(99)
-        self.assertEqual(compose(*self.CASES[0]), first[:-1])
-
-    def test_lists_of_whole_numbers_alone_are_answered(self):
-        for case in self.CASES:
-            answered = compose(*case)
-            self.assertIs(type(answered), list)
-            self.assertEqual({type(number) for number in answered}, {int})
-
-    def test_calls_of_row_and_compose_do_not_meet(self):
-        before = row(LOCKER, BOOK, row_of("GO.A"))
-        compose(LOCKER, book("GO.A x"), raw("x"))
-        self.assertEqual(row(LOCKER, BOOK, row_of("GO.A")), before)
 
 
 if __name__ == "__main__":

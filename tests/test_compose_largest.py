@@ -4,8 +4,7 @@ import random
 import string
 import unittest
 
-from flagmessages.messages import compose
-from helper import Composing, book, expected_locker, expected_shown, locker, raw, read_back, same, sign
+from helper import Composing, book, composed, expected_locker, expected_shown, locker, raw, same, sign
 
 LETTERS = tuple(string.ascii_uppercase + string.digits)
 # Signs for 36 letters and 12 longer names, 48 in all.
@@ -25,11 +24,6 @@ def book_of(entries, names=NAMES):
 
 
 class Largest(Composing):
-    def answered(self, t, b, message):
-        answered = compose(t, b, raw(message))
-        self.assertEqual(read_back(t, b, answered), message)
-        return answered
-
     def test_a_word_of_64_letters(self):
         # Ten rows have seven letters at most, so the first has one and all others seven.
         message = "".join(LETTERS + LETTERS)[:64]
@@ -43,7 +37,7 @@ class Largest(Composing):
         before = {}
         for copies, same_copies, letters in itertools.product((1, 2, 3, 4, 8), (1, 2, 8), ("A", "AB", "ABCDEF")):
             message = "".join(source.choices(letters, k=64)) if len(letters) > 1 else "A" * 64
-            answered = self.answered(largest_locker(copies, same_copies), b, message)
+            answered = composed(largest_locker(copies, same_copies), b, raw(message))
             # Each showing has as many rows as there are copies of the sign for more, and one more with the new word.
             self.assertGreaterEqual(answered[0] * min(4, copies) + 1, answered[1])
             self.assertEqual(answered[2], 64 + answered[1])
@@ -65,9 +59,9 @@ class Largest(Composing):
         entries = dict(zip(sorted(rows), words))
         b = book_of(entries)
         chosen = source.sample(words, 21)
-        answered = self.answered(largest_locker(1, 1), b, " ".join(chosen))
+        answered = composed(largest_locker(1, 1), b, raw(" ".join(chosen)))
         self.assertEqual(answered[1:3], [21, 168])
-        answered = self.answered(largest_locker(8, 1), b, " ".join(chosen))
+        answered = composed(largest_locker(8, 1), b, raw(" ".join(chosen)))
         self.assertEqual(answered[:3], [6, 21, 168])
 
     def test_64_entries_that_all_mean_the_same(self):
@@ -78,7 +72,7 @@ class Largest(Composing):
         b = book_of(entries)
         self.assertEqual(len(entries), 64)
         for copies, showings in ((1, 32), (2, 16), (3, 11), (4, 8), (8, 8)):
-            answered = self.answered(largest_locker(copies, 4), b, message)
+            answered = composed(largest_locker(copies, 4), b, raw(message))
             self.assertEqual(answered[:3], [showings, 32, 64])
 
     def test_rows_of_8_signs_that_all_mean_the_same(self):
@@ -93,7 +87,7 @@ class Largest(Composing):
                 one = tuple(source.choices(names, k=8))
                 if expected_shown([names.index(name) for name in one], 4, read[2], read[3]):
                     entries[one] = "a"
-            answered = self.answered(t, book_of(entries, names), " ".join("a" * 32))
+            answered = composed(t, book_of(entries, names), raw(" ".join("a" * 32)))
             self.assertEqual(answered[:3], [showings, 32, 256], (copies, same_copies))
 
     def test_rows_that_can_not_be_four_in_a_showing(self):
@@ -103,7 +97,7 @@ class Largest(Composing):
         entries = {}
         while len(entries) < 64:
             entries[(source.choice(("X8", "X9")), source.choice(NAMES[:46]))] = source.choice("ab")
-        answered = self.answered(t, book_of(entries), " ".join(source.choices("ab", k=32)))
+        answered = composed(t, book_of(entries), raw(" ".join(source.choices("ab", k=32))))
         self.assertEqual(answered[:3], [11, 32, 64])
 
     def test_a_message_of_64_bytes_that_is_one_meaning(self):
@@ -117,9 +111,9 @@ class Largest(Composing):
         self.check(b, "a b c d", "A.B.C.D.s1.s2.s3.s4 A.B.C.D.s4.s3.s2.s1 E.F.G.H.s1.s1.s1.s1 E.F.G.H.s4.s4.s4.s4",
                    t=locker(*[sign(name, k, 2) for k, name in enumerate(NAMES)], same(1, 6), same(2, 2), same(3, 2),
                             same(4, 6)), names=KINDS)
-        answered = compose(largest_locker(2, 8), b, raw("a b c d"))
+        answered = composed(largest_locker(2, 8), b, raw("a b c d"))
         self.assertEqual(answered[:3], [1, 4, 32])
-        self.assertEqual(compose(largest_locker(2, 5), b, raw("a b c d"))[:3], [2, 4, 32])
+        self.assertEqual(composed(largest_locker(2, 5), b, raw("a b c d"))[:3], [2, 4, 32])
 
     def test_nothing_composes_a_message_of_64_bytes(self):
         self.refuse(book("SP spell", "MO more"), "A" * 63 + "a", t=largest_locker(8, 8))

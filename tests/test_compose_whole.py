@@ -3,9 +3,9 @@ import itertools
 import random
 import unittest
 
-from flagmessages.messages import compose, row
-from helper import (Composer, RowsComposer, book, expected_book, expected_locker, expected_shown, locker, raw,
-                    read_back, same, sign, signs)
+from flagmessages.messages import row
+from helper import (Composer, RowsComposer, book, composed, expected_book, expected_locker, expected_shown, in_order,
+                    locker, raw, same, sign, signs, some_book)
 
 
 def every_message(letters, most):
@@ -17,23 +17,14 @@ def every_message(letters, most):
                 yield message
 
 
-def in_order(entries, names):
-    """The lines of a book's entries, of which each is a row's text and a meaning, in the order of rows."""
-    rows = {tuple(names.index(name) for name in row_text.split(".")): (row_text, meaning)
-            for row_text, meaning in entries}
-    return [" ".join(rows[one]) for one in sorted(rows, key=lambda signs_of_row: (len(signs_of_row), signs_of_row))]
-
-
 class GoneThroughWhole(unittest.TestCase):
     def compare(self, t, b, messages, silent=False):
         """How often which number was answered first."""
         composer = Composer(t, silent).open(b)
         seen = {}
         for message in messages:
-            answered = compose(t, b, raw(message))
+            answered = composed(t, b, raw(message))
             self.assertEqual(answered, composer.composed(message), (bytes(t), bytes(b), message))
-            if answered[0] > 0:
-                self.assertEqual(read_back(t, b, answered), message)
             seen[answered[0]] = seen.get(answered[0], 0) + 1
         return seen
 
@@ -78,7 +69,7 @@ class GoneThroughWhole(unittest.TestCase):
                         tried += 1
                         composer.open(b)
                         for message in ("a b", "b a", "a a b"):
-                            self.assertEqual(compose(t, b, raw(message)), composer.composed(message),
+                            self.assertEqual(composed(t, b, raw(message)), composer.composed(message),
                                              (bytes(t), bytes(b), message))
         self.assertGreater(tried, 200)
 
@@ -116,7 +107,7 @@ class EveryListOfRows(unittest.TestCase):
     """Rows that vie for flags, with more of them at hand than small lockers bear."""
 
     def compare(self, t, b, message):
-        answered = compose(t, b, raw(message))
+        answered = composed(t, b, raw(message))
         self.assertEqual(answered, RowsComposer(t, b).composed(message), (bytes(t), bytes(b), message))
         return answered[0]
 
@@ -151,17 +142,6 @@ class EveryListOfRows(unittest.TestCase):
         self.assertLessEqual({-5, 1, 2, 3}, seen)
 
 
-def some_book(source, read, meanings, most=3):
-    name, names, copies, ks = read
-    entries = []
-    for meaning in meanings:
-        if source.random() < 0.6:
-            signs_of_row = [source.randrange(len(names)) for place in range(source.randint(1, most))]
-            if expected_shown(signs_of_row, len(names), copies, ks):
-                entries.append((".".join(names[k] for k in signs_of_row), meaning))
-    return book(*in_order(entries, names))
-
-
 class Promises(unittest.TestCase):
     NAMES = ("A", "B", "C", "GO", "ST")
     MEANINGS = ("a", "b", "c", "a b", "b c", "A", "AB", "a B", "A a")
@@ -176,16 +156,13 @@ class Promises(unittest.TestCase):
 
     def test_1_what_is_composed_tells_the_message(self):
         source = random.Random(1)
-        composed = 0
+        told = 0
         for many in range(400):
             t = self.some_locker(source)
             b = some_book(source, expected_locker(t), self.MEANINGS + ("spell", "more") * 2)
             message = self.some_message(source)
-            answered = compose(t, b, raw(message))
-            if answered != [-5]:
-                composed += 1
-                self.assertEqual(read_back(t, b, answered), message)
-        self.assertGreater(composed, 60)
+            told += composed(t, b, raw(message)) != [-5]
+        self.assertGreater(told, 60)
 
     def test_4_with_more_entries_it_takes_no_more_showings(self):
         source = random.Random(4)
@@ -205,7 +182,7 @@ class Promises(unittest.TestCase):
             before = None
             for size in range(2, len(entries) + 1):
                 b = book(*in_order(entries[:size], self.NAMES))
-                answered = compose(t, b, raw(message))
+                answered = composed(t, b, raw(message))
                 if before is not None:
                     self.assertLessEqual(1, answered[0])
                     self.assertLessEqual(answered[0], before)
@@ -226,9 +203,9 @@ class Promises(unittest.TestCase):
                 answered = row(t, b, r)
                 if answered[0] > 0 and answered[1] < 2 and expected_shown(r, 5, read[2], read[3]):
                     told[answered[1]] += 1
-                    composed = compose(t, b, answered[2:])
-                    self.assertEqual(composed[:2], [1, 1])
-                    self.assertLessEqual(composed[2], len(r))
+                    showings = composed(t, b, answered[2:])
+                    self.assertEqual(showings[:2], [1, 1])
+                    self.assertLessEqual(showings[2], len(r))
         self.assertGreater(min(told.values()), 20)
 
 

@@ -1,9 +1,8 @@
 """The call row: what rows tell, and its refusals one by one and in their order."""
-import copy
 import unittest
 
 from flagmessages.messages import row
-from helper import LOCKER, NAMES, book, locker, raw, row_of, same, sign, signs
+from helper import LOCKER, NAMES, StandsByItself, book, locker, raw, row_of, same, sign, signs
 
 BOOK = book("A have arrived", "GO spell", "STOP more", "A.B Q", "B.GO need help", "GO.A.B all well")
 TOO_LONG = [10] * 65537
@@ -194,32 +193,12 @@ class Refusals(unittest.TestCase):
             self.assertEqual(row(t, b, r), [number])
 
 
-class NothingChangedNothingKept(unittest.TestCase):
+class NothingChangedNothingKept(StandsByItself, unittest.TestCase):
+    CALL = staticmethod(row)
     CASES = (
         (LOCKER, BOOK, [0]), (LOCKER, BOOK, [7, 0, 2]), (LOCKER, BOOK, [8, 0]), (LOCKER, BOOK, [1]),
         (LOCKER, BOOK, []), (LOCKER, BOOK, [255]), (LOCKER, [], [0]), ([], BOOK, [0]), (TOO_LONG, BOOK, [0]),
     )
-
-    def test_what_is_handed_in_stays_as_it_is(self):
-        for case in self.CASES:
-            before = copy.deepcopy(case)
-            row(*case)
-            self.assertEqual(case, before)
-
-    def test_two_calls_answer_the_same(self):
-        firsts = [row(*case) for case in self.CASES]
-        self.assertEqual([row(*case) for case in self.CASES], firsts)
-
-    def test_changing_an_answer_changes_no_later_one(self):
-        first = row(*self.CASES[0])
-        first.append(99)
-        self.assertEqual(row(*self.CASES[0]), first[:-1])
-
-    def test_lists_of_whole_numbers_alone_are_answered(self):
-        for case in self.CASES:
-            answered = row(*case)
-            self.assertIs(type(answered), list)
-            self.assertEqual({type(number) for number in answered}, {int})
 
 
 if __name__ == "__main__":
